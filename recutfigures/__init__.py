@@ -1,0 +1,1 @@
+"""Put together: any figure cut into any other of the same size."""

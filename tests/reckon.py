@@ -17,6 +17,46 @@ def pairs(row):
     return [(Fraction(row[k]), Fraction(row[k + 1])) for k in range(0, len(row), 2)]
 
 
+def meet(one, other):
+    """What two sides have in common, each corner to corner: the points at its ends."""
+    (a, b), (c, d) = one, other
+    right, up = (b[0] - a[0], b[1] - a[1]), (d[0] - c[0], d[1] - c[1])
+    cross = right[0] * up[1] - right[1] * up[0]
+    off = (c[0] - a[0], c[1] - a[1])
+    if cross:
+        along = Fraction(off[0] * up[1] - off[1] * up[0], cross)
+        across = Fraction(off[0] * right[1] - off[1] * right[0], cross)
+        if 0 <= along <= 1 and 0 <= across <= 1:
+            return [(a[0] + along * right[0], a[1] + along * right[1])]
+        return []
+    if off[0] * right[1] != off[1] * right[0]:
+        return []
+    low, high = max(min(a, b), min(c, d)), min(max(a, b), max(c, d))
+    return sorted({low, high}) if low <= high else []
+
+
+def is_figure(row):
+    """By what each two sides have in common, and by the size as it's counted."""
+    if len(row) % 2 or not 6 <= len(row) <= 16 or max(map(abs, row)) > 50:
+        return False
+    corners = [(row[k], row[k + 1]) for k in range(0, len(row), 2)]
+    count = len(corners)
+    if len(set(corners)) < count:
+        return False
+    sides = [(corners[k], corners[(k + 1) % count]) for k in range(count)]
+    for i in range(count):
+        if area([corners[i - 2], corners[i - 1], corners[i]]) == 0:
+            return False
+        for j in range(i):
+            both = meet(sides[i], sides[j])
+            if j == i - 1 or (j, i) == (0, count - 1):
+                if len(both) != 1:
+                    return False
+            elif both:
+                return False
+    return area(pairs(row)) > 0
+
+
 def area(corners):
     """Counted below 0 where one goes round on the right."""
     total = Fraction(0)

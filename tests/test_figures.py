@@ -1,7 +1,9 @@
 """Promise 1: -22, where what's handed in is no figure."""
 
+import itertools
 import unittest
 
+import reckon
 from recutfigures.cuttings import between
 
 SQUARE = [0, 0, 2, 0, 2, 2, 0, 2]
@@ -109,6 +111,39 @@ class Figures(unittest.TestCase):
     def test_three_corners_at_the_edge(self):
         half = [-50, -50, 50, -50, -50, 50]
         self.assertGreater(between(20, half, half)[0], 0)
+
+
+class EveryRow(unittest.TestCase):
+    """What's a figure, compared with the tests' own reckoning."""
+
+    def compare(self, rows):
+        found = [0, 0]
+        for row in rows:
+            row = list(row)
+            wanted = reckon.is_figure(row)
+            found[wanted] += 1
+            # By their sizes -33 is due next, so that nothing needs to be cut.
+            answer = between(4, row, [-50, -50, 50, -50, 50, 50, -50, 50])
+            self.assertEqual(answer, [-33] if wanted else [-22], row)
+        self.assertGreater(min(found), 0)
+
+    def test_three_corners_on_a_small_grid(self):
+        self.compare(itertools.product(range(3), repeat=6))
+
+    def test_four_corners_on_a_small_grid(self):
+        self.compare(itertools.product(range(3), repeat=8))
+
+    def test_more_corners(self):
+        for count in (5, 6, 7, 8):
+            state = count
+            rows = []
+            for _ in range(4000):
+                row = []
+                for _ in range(2 * count):
+                    state = (state * 1103515245 + 12345) % 2 ** 31
+                    row.append((state >> 16) % 7 - 3)
+                rows.append(row)
+            self.compare(rows)
 
 
 if __name__ == "__main__":

@@ -8,6 +8,42 @@ def piece_of(corners):
     return [corners[k] for k in range(len(corners)) if corners[k] != corners[k - 1]]
 
 
+def lines_of(corners):
+    """The lines of the sides, each from the corner ahead to the corner."""
+    return [line_through(corners[k - 1], corners[k]) for k in range(len(corners))]
+
+
+def is_beyond(corners, line):
+    """If no corner is on the left of the line."""
+    for corner in corners:
+        if side_of(line, corner) > 0:
+            return False
+    return True
+
+
+def is_piece(corners):
+    """If from each side all other corners are on its left."""
+    for k in range(len(corners)):
+        around = corners[k:] + corners[:k]
+        line = line_through(around[-1], around[0])
+        if min([side_of(line, corner) for corner in around[1:-1]]) <= 0:
+            return False
+    return True
+
+
+def double_size_of(corners):
+    """Twice the size of a piece: a number over another, perhaps with something in common."""
+    below = 1
+    for corner in corners:
+        below *= corner[2]
+    above = 0
+    for k in range(len(corners)):
+        p = corners[k - 1]
+        q = corners[k]
+        above += (p[0] * q[1] - p[1] * q[0]) * (below // (p[2] * q[2]))
+    return (above, below)
+
+
 def clipped(corners, line):
     """What of a piece is on the left of the line; no corners if that's no piece."""
     sides = [side_of(line, corner) for corner in corners]
@@ -27,8 +63,8 @@ def clipped(corners, line):
 def common(one, other):
     """The piece that's in both; no corners if there's none."""
     kept = one
-    for k in range(len(other)):
-        kept = clipped(kept, line_through(other[k - 1], other[k]))
+    for line in lines_of(other):
+        kept = clipped(kept, line)
         if len(kept) == 0:
             return kept
     return kept
@@ -51,6 +87,7 @@ def glued(one, other):
     # Two pieces that have no piece in common lie on two sides of a line. If
     # both together are a piece, each of them has on that line all that the
     # whole has there: a side of the one is a side of the other, the other way.
+    # And where that's so they lie on its two sides: they've none in common.
     for i in range(len(one)):
         for j in range(len(other)):
             if one[i] == other[j - 1] and one[i - 1] == other[j]:

@@ -5,7 +5,7 @@ d up. d is 1 or more and the three have nothing in common, so that what is the
 same is told alike.
 """
 
-from recutfigures.ratios import common_factor, is_more, ratio
+from recutfigures.ratios import common_factor, ratio
 
 
 def point(x, y, d):
@@ -76,8 +76,14 @@ def crossing(p, q, side_p, side_q):
     )
 
 
+def is_higher(p, q):
+    return p[1] * q[2] > q[1] * p[2]
+
+
 def is_ahead(p, q):
     """If p is more to the left than q, or as far and lower."""
-    if right_of(p) == right_of(q):
-        return is_more(up_of(q), up_of(p))
-    return is_more(right_of(q), right_of(p))
+    right_p = p[0] * q[2]
+    right_q = q[0] * p[2]
+    if right_p == right_q:
+        return is_higher(q, p)
+    return right_p < right_q

@@ -377,19 +377,58 @@ def area_within(piece, figure):
     return total
 
 
-def wrong(f, g, cutting):
-    """What's wrong with a cutting from f to g; nothing if it's right."""
+def first_two(pieces):
+    for i, piece in enumerate(pieces):
+        for j in range(i + 1, len(pieces)):
+            if overlap(piece, pieces[j]):
+                return [i, j]
+    return None
+
+
+def why(f, g, cutting):
+    """What's to be answered for two figures and a cutting: 1, or 0 and what's wrong."""
     if area(pairs(f)) != area(pairs(g)):
-        return "sizes"
-    there = [moved(piece, move) for piece, move in cutting]
+        return [0, 1, 0, 0]
     here = [piece for piece, _ in cutting]
-    for pieces, figure in ((here, f), (there, g)):
+    there = [moved(piece, move) for piece, move in cutting]
+    for kind, pieces, figure in ((2, here, f), (3, there, g)):
         for i, piece in enumerate(pieces):
             if area_within(piece, figure) != area(piece):
-                return ("not all within", i)
-            for j in range(i):
-                if overlap(piece, pieces[j]):
-                    return ("in common", j, i)
+                return [0, kind, i, 0]
+    for kind, pieces in ((4, here), (5, there)):
+        two = first_two(pieces)
+        if two:
+            return [0, kind] + two
     if sum(map(area, here)) != area(pairs(f)):
-        return "left out"
-    return None
+        return [0, 6, 0, 0]
+    return [1]
+
+
+def handed(row):
+    """The parts that a row tells; None if it's no cutting."""
+    cutting, rest = [], list(row)
+    while rest:
+        count = rest[0]
+        if not 3 <= count <= 40 or len(rest) < 4 * count + 6:
+            return None
+        one, turned, way = rest[1:4 * count + 1], rest[4 * count + 1], rest[4 * count + 2:4 * count + 6]
+        rest = rest[4 * count + 6:]
+        values = []
+        for above, below in zip((one + way)[::2], (one + way)[1::2]):
+            if below < 1 or math.gcd(above, below) != 1:
+                return None
+            values.append(Fraction(above, below))
+        piece = list(zip(values[:-2:2], values[1:-2:2]))
+        start = piece.index(min(piece))
+        if turned not in (0, 1) or piece[start:] + piece[:start] != hull(piece):
+            return None
+        cutting.append((piece, (turned, values[-2], values[-1])))
+    return cutting
+
+
+def fewer(row):
+    """What's to be answered for a row, with parts joined."""
+    cutting = handed(row)
+    if cutting is None:
+        return [-22]
+    return told(join(cutting)) if len(cutting) <= 160 else [-28]

@@ -3,35 +3,11 @@
 import unittest
 
 import reckon
+from helpers import (
+    COMB, DART, KITE, LONG, NINE, OCTAGON, SQUARE, TWELVE, TWO_HORNS, TWO_LEGS, U, Unchanging,
+    slid, turned, upright,
+)
 from recutfigures.cuttings import between
-
-SQUARE = [0, 0, 2, 0, 2, 2, 0, 2]
-LONG = [0, 0, 4, 0, 4, 1, 0, 1]
-U = [0, 0, 5, 0, 5, 3, 4, 3, 4, 1, 1, 1, 1, 3, 0, 3]
-NINE = [0, 0, 3, 0, 3, 3, 0, 3]
-TWO_LEGS = [0, 0, 2, 2, 4, 0, 4, 4, 0, 4]
-TWO_HORNS = [0, 0, 4, 0, 4, 4, 2, 2, 0, 4]
-TWELVE = [0, 0, 4, 0, 4, 3, 0, 3]
-DART = [0, 0, 4, 2, 0, 4, 1, 2]
-COMB = [0, 0, 6, 0, 6, 4, 4, 1, 3, 5, 2, 1, 1, 3, 0, 1]
-KITE = [0, 0, 3, 1, 4, 4, 1, 3]
-OCTAGON = [0, 0, 2, 0, 3, 1, 3, 3, 2, 4, 0, 4, -1, 3, -1, 1]
-
-
-def slid(figure, right, up):
-    return [figure[k] + (up if k % 2 else right) for k in range(len(figure))]
-
-
-def turned(figure):
-    return [-number for number in figure]
-
-
-def upright(figure):
-    """Turned by a quarter."""
-    quarter = []
-    for k in range(0, len(figure), 2):
-        quarter += [-figure[k + 1], figure[k]]
-    return quarter
 
 
 def numbers(*rows):
@@ -113,7 +89,7 @@ class Checked(unittest.TestCase):
             self.assertGreater(answer[0], 0)
             cutting = reckon.read(answer)
             self.assertEqual(len(cutting), answer[0])
-            self.assertIsNone(reckon.wrong(f, g, cutting))
+            self.assertEqual(reckon.why(f, g, cutting), [1])
             for number in answer:
                 self.assertIs(type(number), int)
             return cutting
@@ -243,16 +219,6 @@ class Joined(Checked):
                 for other, also in cutting[i + 1:]:
                     if move == also:
                         self.assertEqual(reckon.one_piece(piece, other), [])
-
-
-class Unchanging(list):
-    """A list that may not be changed."""
-
-    def refuse(self, *words, **more):
-        raise AssertionError("what was handed in was changed")
-
-    append = extend = insert = pop = remove = clear = sort = reverse = refuse
-    __setitem__ = __delitem__ = __iadd__ = __imul__ = refuse
 
 
 class HandedIn(unittest.TestCase):

@@ -156,9 +156,11 @@ class Form(unittest.TestCase):
                 if name in CALLS:
                     self.assertEqual(path.name, "cuttings.py")
         from recutfigures import cuttings
-        code = cuttings.between.__code__
-        self.assertEqual(code.co_varnames[:code.co_argcount], ("w", "f", "g"))
-        self.assertIsNone(cuttings.between.__defaults__)
+        wanted = ((cuttings.between, ("w", "f", "g")), (cuttings.why, ("f", "g", "c")), (cuttings.fewer, ("c",)))
+        for call, names in wanted:
+            code = call.__code__
+            self.assertEqual(code.co_varnames[:code.co_argcount], names)
+            self.assertIsNone(call.__defaults__)
 
     def test_every_import_and_function_is_used(self):
         used = set()

@@ -14,32 +14,32 @@ def part(row, turned=0, right=0, up=0):
     return (reckon.pairs(row), (turned, Fraction(right), Fraction(up)))
 
 
-class Wrong(unittest.TestCase):
+class Why(unittest.TestCase):
     def test_nothing(self):
-        self.assertIsNone(reckon.wrong(SQUARE, SQUARE, [part(LOWER), part(UPPER)]))
-        self.assertIsNone(reckon.wrong(SQUARE, SQUARE, [part(LOWER, 1, 2, 2), part(UPPER, 1, 2, 2)]))
+        self.assertEqual(reckon.why(SQUARE, SQUARE, [part(LOWER), part(UPPER)]), [1])
+        self.assertEqual(reckon.why(SQUARE, SQUARE, [part(LOWER, 1, 2, 2), part(UPPER, 1, 2, 2)]), [1])
 
     def test_sizes(self):
-        self.assertEqual(reckon.wrong(SQUARE, LOWER, [part(LOWER)]), "sizes")
+        self.assertEqual(reckon.why(SQUARE, LOWER, [part(LOWER)]), [0, 1, 0, 0])
 
     def test_a_part_twice(self):
-        self.assertEqual(reckon.wrong(SQUARE, SQUARE, [part(LOWER), part(LOWER)]), ("in common", 0, 1))
+        self.assertEqual(reckon.why(SQUARE, SQUARE, [part(LOWER), part(LOWER)]), [0, 4, 0, 1])
 
     def test_two_parts_moved_to_one_place(self):
         cutting = [part(LOWER), part(UPPER, 0, 0, -1)]
-        self.assertEqual(reckon.wrong(SQUARE, SQUARE, cutting), ("in common", 0, 1))
+        self.assertEqual(reckon.why(SQUARE, SQUARE, cutting), [0, 5, 0, 1])
 
     def test_moved_out(self):
         cutting = [part(LOWER), part(UPPER, 0, 1, 0)]
-        self.assertEqual(reckon.wrong(SQUARE, SQUARE, cutting), ("not all within", 1))
+        self.assertEqual(reckon.why(SQUARE, SQUARE, cutting), [0, 3, 1, 0])
 
     def test_out_of_one_that_is_not_convex(self):
         dent = [0, 0, 2, 1, 4, 0, 4, 2, 0, 2]
         box = [0, 0, 4, 0, 4, 1, 0, 1]
-        self.assertEqual(reckon.wrong(dent, dent, [part(box, 0, 0, 1)]), ("not all within", 0))
+        self.assertEqual(reckon.why(dent, dent, [part(box, 0, 0, 1)]), [0, 2, 0, 0])
 
     def test_left_out(self):
-        self.assertEqual(reckon.wrong(SQUARE, SQUARE, [part(LOWER)]), "left out")
+        self.assertEqual(reckon.why(SQUARE, SQUARE, [part(LOWER)]), [0, 6, 0, 0])
 
 
 class Read(unittest.TestCase):

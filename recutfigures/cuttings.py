@@ -2,7 +2,7 @@
 
 from recutfigures.faults import fault
 from recutfigures.figures import double_size, is_figure
-from recutfigures.parts import TooMuch, behind, joined, taken_back
+from recutfigures.parts import TooMuch, behind, joined, slid_and_turned, taken_back
 from recutfigures.rows import NoCutting, read_cutting, told
 from recutfigures.strips import cut_to_strip
 
@@ -64,3 +64,8 @@ def why(f, g, c):
 def fewer(c):
     """How many parts, then cutting c with its parts joined."""
     return of_cutting(c, lambda cutting: told(joined(cutting)))
+
+
+def slid(c):
+    """How many parts of cutting c are slid alone, then how many are turned."""
+    return of_cutting(c, slid_and_turned)

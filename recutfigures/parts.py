@@ -67,6 +67,12 @@ def slid_on(cutting, way):
     return [(corners, move_then(move, (0, way))) for corners, move in cutting]
 
 
+def slid_and_turned(cutting):
+    """How many parts are slid alone, then how many are turned."""
+    turned = sum([move[0] for corners, move in cutting])
+    return [len(cutting) - turned, turned]
+
+
 def both_joined(one, other):
     """The piece that two parts make; no corners if they can't be joined."""
     if one[1] != other[1]:

@@ -120,3 +120,13 @@ def random_figure(numbers, count, width):
         row = [numbers.below(width + 1) for _ in range(2 * count)]
         if reckon.is_figure(row):
             return row
+
+
+# Figures of one size, with a width by which the one is cut into the other.
+PAIRS = (
+    (2, SQUARE, SQUARE), (2, SQUARE, LONG), (3, LONG, SQUARE), (5, SQUARE, slid(SQUARE, -7, 5)), (2, U, NINE),
+    (3, TWO_LEGS, TWELVE), (4, TWELVE, TWO_HORNS), (1, TWO_HORNS, TWO_LEGS), (3, DART, turned(DART)),
+    (2, COMB, begun_at(COMB, 3)), (1, KITE, [0, 0, 8, 0, 0, 2]), (2, DART, box(0, 0, 3, 2)),
+    (3, OCTAGON, turned(OCTAGON)),
+    (20, [-50, -50, 50, -50, -50, 50], box(-50, -25, 50, 25)), (4, [0, 0, 3, 0, 0, 3], [0, 0, 9, 0, 0, 1]),
+)

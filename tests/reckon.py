@@ -426,9 +426,20 @@ def handed(row):
     return cutting
 
 
-def fewer(row):
-    """What's to be answered for a row, with parts joined."""
+def answered(row, tell):
+    """What's to be answered for a row: a refusal, or what's told of its parts."""
     cutting = handed(row)
     if cutting is None:
         return [-22]
-    return told(join(cutting)) if len(cutting) <= 160 else [-28]
+    return tell(cutting) if len(cutting) <= 160 else [-28]
+
+
+def fewer(row):
+    """What's to be answered for a row, with parts joined."""
+    return answered(row, lambda cutting: told(join(cutting)))
+
+
+def slid(row):
+    """What's to be answered for a row: how many parts aren't turned, how many are."""
+    turns = (0, 1)
+    return answered(row, lambda cutting: [[turn for _, (turn, _, _) in cutting].count(turn) for turn in turns])

@@ -156,7 +156,8 @@ class Form(unittest.TestCase):
                 if name in CALLS:
                     self.assertEqual(path.name, "cuttings.py")
         from recutfigures import cuttings
-        wanted = ((cuttings.between, ("w", "f", "g")), (cuttings.why, ("f", "g", "c")), (cuttings.fewer, ("c",)))
+        wanted = ((cuttings.between, ("w", "f", "g")), (cuttings.why, ("f", "g", "c")), (cuttings.fewer, ("c",)),
+                  (cuttings.slid, ("c",)))
         for call, names in wanted:
             code = call.__code__
             self.assertEqual(code.co_varnames[:code.co_argcount], names)

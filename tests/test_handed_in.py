@@ -1,11 +1,11 @@
-"""Promise 1: -22 where c is no cutting, and -28 where it has too many parts; of why and fewer."""
+"""Promise 1: -22 where c is no cutting, and -28 where it has too many parts; of why, fewer and slid."""
 
 import unittest
 from fractions import Fraction
 
 import reckon
 from helpers import GREATEST, LEAST_PART, Numbers, Unchanging, arc, begun_at, box, part, random_piece, row_of
-from recutfigures.cuttings import fewer, why
+from recutfigures.cuttings import fewer, slid, why
 from test_figures import NO_FIGURES
 
 WHOLE = box(-50, -50, 50, 50)
@@ -104,10 +104,12 @@ class Handed(unittest.TestCase):
     def refused(self, row, answer=-22):
         self.assertEqual(why(WHOLE, WHOLE, row), [answer], row)
         self.assertEqual(fewer(row), [answer], row)
+        self.assertEqual(slid(row), [answer], row)
 
     def taken(self, row):
         self.assertIn(why(WHOLE, WHOLE, row)[0], (0, 1), row)
         self.assertGreaterEqual(fewer(row)[0], 0, row)
+        self.assertGreaterEqual(slid(row)[0], 0, row)
 
     def refused_everywhere(self, bad):
         for row in places_of_a_part(bad):
@@ -247,12 +249,12 @@ class Many(Handed):
         self.assertEqual(len(reckon.handed(row)), 160)
         self.assertEqual(why(self.F, self.F, row), [1])
         self.assertEqual(fewer(row), [1] + part(self.F))
+        self.assertEqual(slid(row), [160, 0])
 
     def test_161(self):
         row = self.rows(161)
         self.assertEqual(len(reckon.handed(row)), 161)
-        self.assertEqual(why(self.F, self.F, row), [-28])
-        self.assertEqual(fewer(row), [-28])
+        self.refused(row, -28)
 
     def test_as_many_as_there_can_be(self):
         row = TRIANGLE * 222
@@ -271,6 +273,7 @@ class Many(Handed):
     def test_no_parts(self):
         self.assertEqual(why(WHOLE, WHOLE, []), [0, 6, 0, 0])
         self.assertEqual(fewer([]), [0])
+        self.assertEqual(slid([]), [0, 0])
 
 
 class WhichOfSeveral(unittest.TestCase):
@@ -299,6 +302,7 @@ class WhichOfSeveral(unittest.TestCase):
 
 
 class KeptAsItWas(unittest.TestCase):
+    CALLS = (fewer, slid, lambda c: why(WHOLE, WHOLE, c))
     ROWS = ([], TRIANGLE, sum(GOOD, []), TRIANGLE * 2, TRIANGLE * 161, [7], part(arc(41)), HALVES[:-1],
             row_of(reckon.handed(part(box(0, 0, 1, 1)) + part(box(1, 0, 2, 1)))))
 
@@ -308,16 +312,17 @@ class KeptAsItWas(unittest.TestCase):
                 one, other, third = Unchanging(f), Unchanging(g), Unchanging(row)
                 why(one, other, third)
                 fewer(third)
+                slid(third)
                 self.assertEqual((list(one), list(other), list(third)), (f, g, row))
 
     def test_a_second_call_answers_as_the_first(self):
-        first = [(why(WHOLE, WHOLE, list(row)), fewer(list(row))) for row in self.ROWS]
-        second = [(why(WHOLE, WHOLE, list(row)), fewer(list(row))) for row in reversed(self.ROWS)]
+        first = [[call(list(row)) for call in self.CALLS] for row in self.ROWS]
+        second = [[call(list(row)) for call in self.CALLS] for row in reversed(self.ROWS)]
         self.assertEqual(first, second[::-1])
 
     def test_an_answer_is_kept_nowhere(self):
         for row in self.ROWS:
-            for call in (fewer, lambda c: why(WHOLE, WHOLE, c)):
+            for call in self.CALLS:
                 answer = call(row)
                 copy = list(answer)
                 answer.append(7)
@@ -325,7 +330,8 @@ class KeptAsItWas(unittest.TestCase):
 
     def test_answers_are_plain_lists_of_whole_numbers(self):
         for row in self.ROWS:
-            for answer in (why(WHOLE, WHOLE, row), fewer(row)):
+            for call in self.CALLS:
+                answer = call(row)
                 self.assertIs(type(answer), list)
                 for number in answer:
                     self.assertIs(type(number), int)

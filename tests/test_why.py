@@ -5,7 +5,7 @@ from fractions import Fraction
 
 import reckon
 from helpers import (
-    COMB, DART, GREATEST, KITE, LEAST_PART, LONG, NINE, OCTAGON, SQUARE, TWELVE, TWO_HORNS, TWO_LEGS, U, Numbers,
+    COMB, DART, GREATEST, KITE, LEAST_PART, LONG, NINE, OCTAGON, PAIRS, SQUARE, TWELVE, TWO_LEGS, U, Numbers,
     begun_at, box, part, random_figure, random_piece, row_of, slid, turned,
 )
 from recutfigures.cuttings import between, why
@@ -14,13 +14,6 @@ HALF = Fraction(1, 2)
 LOWER = box(0, 0, 2, 1)
 UPPER = box(0, 1, 2, 2)
 WHOLE = box(-50, -50, 50, 50)
-PAIRS = (
-    (2, SQUARE, SQUARE), (2, SQUARE, LONG), (3, LONG, SQUARE), (5, SQUARE, slid(SQUARE, -7, 5)), (2, U, NINE),
-    (3, TWO_LEGS, TWELVE), (4, TWELVE, TWO_HORNS), (1, TWO_HORNS, TWO_LEGS), (3, DART, turned(DART)),
-    (2, COMB, begun_at(COMB, 3)), (1, KITE, [0, 0, 8, 0, 0, 2]), (2, DART, box(0, 0, 3, 2)),
-    (3, OCTAGON, turned(OCTAGON)),
-    (20, [-50, -50, 50, -50, -50, 50], box(-50, -25, 50, 25)), (4, [0, 0, 3, 0, 0, 3], [0, 0, 9, 0, 0, 1]),
-)
 
 
 class Right(unittest.TestCase):

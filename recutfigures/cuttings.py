@@ -3,7 +3,7 @@
 from recutfigures.faults import fault
 from recutfigures.figures import double_size, is_figure
 from recutfigures.parts import TooMuch, behind, joined, slid_and_turned, taken_back
-from recutfigures.rows import NoCutting, read_cutting, told
+from recutfigures.rows import NoCutting, read_cutting, told, told_sizes
 from recutfigures.strips import cut_to_strip
 
 NO_SUCH = -22
@@ -69,3 +69,8 @@ def fewer(c):
 def slid(c):
     """How many parts of cutting c are slid alone, then how many are turned."""
     return of_cutting(c, slid_and_turned)
+
+
+def sizes(c):
+    """How many parts cutting c has, then how great each is, a fraction."""
+    return of_cutting(c, told_sizes)

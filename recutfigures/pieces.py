@@ -1,6 +1,7 @@
 """Pieces: lists of points, round on the left, bent to the left at each corner."""
 
 from recutfigures.points import crossing, is_ahead, line_through, side_of, turning
+from recutfigures.ratios import ratio
 
 
 def piece_of(corners):
@@ -42,6 +43,12 @@ def double_size_of(corners):
         q = corners[k]
         above += (p[0] * q[1] - p[1] * q[0]) * (below // (p[2] * q[2]))
     return (above, below)
+
+
+def size_of(corners):
+    """How great a piece is, a fraction."""
+    above, below = double_size_of(corners)
+    return ratio(above, 2 * below)
 
 
 def clipped(corners, line):

@@ -1,7 +1,7 @@
 """Cuttings as rows of numbers: how they're read, and how they're told."""
 
 from recutfigures.parts import check_count
-from recutfigures.pieces import begun, is_piece
+from recutfigures.pieces import begun, is_piece, size_of
 from recutfigures.points import point_at, right_of, up_of
 from recutfigures.ratios import common_factor
 
@@ -79,4 +79,12 @@ def told(cutting):
     numbers = [len(cutting)]
     for part in cutting:
         numbers.extend(told_part(part))
+    return numbers
+
+
+def told_sizes(cutting):
+    """How many parts, then how great each is."""
+    numbers = [len(cutting)]
+    for corners, move in cutting:
+        numbers.extend(size_of(corners))
     return numbers

@@ -364,6 +364,19 @@ def read(answer):
     return cutting
 
 
+def place_of(point, corners):
+    """1: strictly within; 0: on a side; -1: without. By the sides to the right of the point."""
+    x, y = point
+    within = False
+    for (ax, ay), (bx, by) in zip(corners, corners[1:] + corners[:1]):
+        turn = (bx - ax) * (y - ay) - (by - ay) * (x - ax)
+        if turn == 0 and min(ax, bx) <= x <= max(ax, bx) and min(ay, by) <= y <= max(ay, by):
+            return 0
+        if (ay > y) != (by > y) and (turn > 0) == (by > ay):
+            within = not within
+    return 1 if within else -1
+
+
 def area_within(piece, figure):
     """How much of a piece lies in a figure: by triangles, counted by which way round."""
     corners = pairs(figure)
@@ -443,3 +456,14 @@ def slid(row):
     """What's to be answered for a row: how many parts aren't turned, how many are."""
     turns = (0, 1)
     return answered(row, lambda cutting: [[turn for _, (turn, _, _) in cutting].count(turn) for turn in turns])
+
+
+def sizes(row):
+    """What's to be answered for a row: how many parts, then how great each is."""
+    def tell(cutting):
+        numbers = [len(cutting)]
+        for piece, _ in cutting:
+            numbers += area(piece).as_integer_ratio()
+        return numbers
+
+    return answered(row, tell)

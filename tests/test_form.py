@@ -157,7 +157,7 @@ class Form(unittest.TestCase):
                     self.assertEqual(path.name, "cuttings.py")
         from recutfigures import cuttings
         wanted = ((cuttings.between, ("w", "f", "g")), (cuttings.why, ("f", "g", "c")), (cuttings.fewer, ("c",)),
-                  (cuttings.slid, ("c",)))
+                  (cuttings.slid, ("c",)), (cuttings.sizes, ("c",)))
         for call, names in wanted:
             code = call.__code__
             self.assertEqual(code.co_varnames[:code.co_argcount], names)

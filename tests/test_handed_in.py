@@ -1,11 +1,11 @@
-"""Promise 1: -22 where c is no cutting, and -28 where it has too many parts; of why, fewer and slid."""
+"""Promise 1: -22 where c is no cutting, and -28 where it has too many parts; of why, fewer, slid and sizes."""
 
 import unittest
 from fractions import Fraction
 
 import reckon
 from helpers import GREATEST, LEAST_PART, Numbers, Unchanging, arc, begun_at, box, part, random_piece, row_of
-from recutfigures.cuttings import fewer, slid, why
+from recutfigures.cuttings import fewer, sizes, slid, why
 from test_figures import NO_FIGURES
 
 WHOLE = box(-50, -50, 50, 50)
@@ -105,11 +105,13 @@ class Handed(unittest.TestCase):
         self.assertEqual(why(WHOLE, WHOLE, row), [answer], row)
         self.assertEqual(fewer(row), [answer], row)
         self.assertEqual(slid(row), [answer], row)
+        self.assertEqual(sizes(row), [answer], row)
 
     def taken(self, row):
         self.assertIn(why(WHOLE, WHOLE, row)[0], (0, 1), row)
         self.assertGreaterEqual(fewer(row)[0], 0, row)
         self.assertGreaterEqual(slid(row)[0], 0, row)
+        self.assertGreaterEqual(sizes(row)[0], 0, row)
 
     def refused_everywhere(self, bad):
         for row in places_of_a_part(bad):
@@ -250,6 +252,7 @@ class Many(Handed):
         self.assertEqual(why(self.F, self.F, row), [1])
         self.assertEqual(fewer(row), [1] + part(self.F))
         self.assertEqual(slid(row), [160, 0])
+        self.assertEqual(sizes(row), [160] + [1, 1] * 160)
 
     def test_161(self):
         row = self.rows(161)
@@ -274,6 +277,7 @@ class Many(Handed):
         self.assertEqual(why(WHOLE, WHOLE, []), [0, 6, 0, 0])
         self.assertEqual(fewer([]), [0])
         self.assertEqual(slid([]), [0, 0])
+        self.assertEqual(sizes([]), [0])
 
 
 class WhichOfSeveral(unittest.TestCase):
@@ -302,7 +306,7 @@ class WhichOfSeveral(unittest.TestCase):
 
 
 class KeptAsItWas(unittest.TestCase):
-    CALLS = (fewer, slid, lambda c: why(WHOLE, WHOLE, c))
+    CALLS = (fewer, slid, sizes, lambda c: why(WHOLE, WHOLE, c))
     ROWS = ([], TRIANGLE, sum(GOOD, []), TRIANGLE * 2, TRIANGLE * 161, [7], part(arc(41)), HALVES[:-1],
             row_of(reckon.handed(part(box(0, 0, 1, 1)) + part(box(1, 0, 2, 1)))))
 
@@ -313,6 +317,7 @@ class KeptAsItWas(unittest.TestCase):
                 why(one, other, third)
                 fewer(third)
                 slid(third)
+                sizes(third)
                 self.assertEqual((list(one), list(other), list(third)), (f, g, row))
 
     def test_a_second_call_answers_as_the_first(self):

@@ -42,6 +42,20 @@ class Why(unittest.TestCase):
         self.assertEqual(reckon.why(SQUARE, SQUARE, [part(LOWER)]), [0, 6, 0, 0])
 
 
+class PlaceOf(unittest.TestCase):
+    DENT = [0, 0, 2, 1, 4, 0, 4, 2, 0, 2]
+
+    def test_each_place(self):
+        half = Fraction(1, 2)
+        for point, place in (
+            ((2, half), -1), ((-1, 1), -1), ((5, 1), -1), ((3, 3), -1), ((2, 3), -1), ((1, 0), -1), ((-1, 2), -1),
+            ((0, 0), 0), ((2, 1), 0), ((1, half), 0), ((4, 1), 0), ((2, 2), 0), ((0, 2), 0),
+            ((1, 1), 1), ((3, 1), 1), ((2, 1 + half), 1), ((half, half), 1), ((4 - half, half), 1),
+        ):
+            with self.subTest(point=point):
+                self.assertEqual(reckon.place_of(point, reckon.pairs(self.DENT)), place)
+
+
 class Read(unittest.TestCase):
     GOOD = [1, 3, 0, 1, 0, 1, 1, 1, 0, 1, 0, 1, 1, 1, 0, 0, 1, 1, 2]
 
